@@ -47,6 +47,7 @@ func (wide) width() int        { return BitWide }
 func (wide) exponentBits() int { return 11 }
 func (wide) fractionBits() int { return 52 }
 
+// formats is the table of both. BitKindOf alone looks a width up in it: no other function calls that one, so all others do without start-up.
 var formats [2]format
 
 func init() {
@@ -54,10 +55,11 @@ func init() {
 }
 
 func formatOf(width int) (format, bool) {
-	for _, f := range formats {
-		if f.width() == width {
-			return f, true
-		}
+	switch width {
+	case BitNarrow:
+		return narrow{}, true
+	case BitWide:
+		return wide{}, true
 	}
 	return nil, false
 }
@@ -69,6 +71,11 @@ func greatestExponent(f format) int {
 
 func topOf(f format) int {
 	return greatestExponent(f) << f.fractionBits()
+}
+
+func hasOrd(f format, ord int) bool {
+	// The least int has no size, so both ends are asked.
+	return -topOf(f) <= ord && ord <= topOf(f)
 }
 
 func signBit(f format) uint64 {
@@ -111,8 +118,7 @@ func BitTop(width int) int {
 // BitOk says whether a number is an order number.
 func BitOk(width int, ord int) bool {
 	f, ok := formatOf(width)
-	// The least int has no size, so both ends are asked.
-	return ok && -topOf(f) <= ord && ord <= topOf(f)
+	return ok && hasOrd(f, ord)
 }
 
 // BitOrd is the order number of a pattern.
@@ -144,11 +150,15 @@ func BitBits(width int, ord int) uint64 {
 
 // BitKindOf tells what kind of float it is.
 func BitKindOf(width int, ord int) int {
-	f, ok := formatOf(width)
-	if !ok || !BitOk(width, ord) {
-		return BitNone
+	for _, f := range formats {
+		if f.width() == width && hasOrd(f, ord) {
+			return kindOfSize(f, sizeOf(ord))
+		}
 	}
-	size := sizeOf(ord)
+	return BitNone
+}
+
+func kindOfSize(f format, size int) int {
 	switch {
 	case size == 0:
 		return BitZero

@@ -8,6 +8,7 @@ import (
 	"go/token"
 	"os"
 	"path/filepath"
+	"slices"
 	"strconv"
 	"strings"
 	"testing"
@@ -57,6 +58,49 @@ func checkFile(t *testing.T, path string, text []byte) {
 		if ok && set.Position(f.End()).Line-set.Position(f.Pos()).Line >= 60 {
 			t.Errorf("%s: %s is too long", path, f.Name.Name)
 		}
+	}
+}
+
+// namesIn is, of each function of the program, the names that it speaks of.
+func namesIn(t *testing.T) map[string][]string {
+	names := map[string][]string{}
+	paths, _ := filepath.Glob("../impl/l*.go")
+	for _, path := range paths {
+		file, err := parser.ParseFile(token.NewFileSet(), path, nil, 0)
+		if err != nil {
+			t.Fatal(err)
+		}
+		for _, decl := range file.Decls {
+			if f, ok := decl.(*ast.FuncDecl); ok {
+				ast.Inspect(f.Body, func(n ast.Node) bool {
+					if id, ok := n.(*ast.Ident); ok {
+						names[f.Name.Name] = append(names[f.Name.Name], id.Name)
+					}
+					return true
+				})
+			}
+		}
+	}
+	return names
+}
+
+// The table that init fills is read by one exported function; all others answer without it, by whatever they call.
+func TestReadersOfTheTable(t *testing.T) {
+	names := namesIn(t)
+	if !slices.Contains(names["init"], "formats") {
+		t.Error("init does not fill the table")
+	}
+	reached := []string{"formats"}
+	for at := 0; at < len(reached); at++ {
+		for f, spoken := range names {
+			if slices.Contains(spoken, reached[at]) && !slices.Contains(reached, f) {
+				reached = append(reached, f)
+			}
+		}
+	}
+	slices.Sort(reached)
+	if !slices.Equal(reached, []string{"BitKindOf", "formats", "init"}) {
+		t.Errorf("the table is reached by %v", reached)
 	}
 }
 
